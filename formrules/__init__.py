@@ -1,0 +1,1 @@
+"""Formrules: the rules that the own forms of a book have."""

@@ -1,0 +1,10 @@
+"""Whether expressions are closed: whether no name stands free in what they are written out to."""
+
+from formrules.guards import shelf_for
+from formrules.layers import led
+
+
+def is_closed(book, e):
+    """Tell whether no copy of a read of e is led outside; BadBook, BadExpression."""
+    found = led(shelf_for(book, e), e)
+    return all([None not in found[path] for path in found])
