@@ -78,6 +78,14 @@ def inside(word, times):
     return e
 
 
+def sized(nodes):
+    """Give a core expression of so many nodes that does not nest deep."""
+    if nodes < 3:
+        return num(1) if nodes == 1 else ("show", num(1))
+    half = (nodes - 1) // 2
+    return ("then", sized(half), sized(nodes - 1 - half))
+
+
 # Values that are nothing the document tells of.
 ODDITIES = [
     None, True, False, 0, 1, -1, 8, "", "x", "number", b"name", (), [], {}, ("",), (1,), ("name",), ["name", "x"],

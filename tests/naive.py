@@ -21,14 +21,22 @@ def mapped(node, name, part):
     return (node[0],) + tuple(how[kind](item) for kind, item in zip(ARITY[node[0]], node[1:]))
 
 
+class TooLong(Exception):
+    """What is written out is too great for a plain way."""
+
+
 class Expander:
     """Writes out with objects ("fresh", n) as fresh names."""
 
-    def __init__(self, book):
+    def __init__(self, book, patience=20000):
         self.forms = {form[1]: form for form in book[2]}
         self.count = 0
+        self.patience = patience
 
     def step(self, use):
+        self.patience -= 1
+        if self.patience < 0:
+            raise TooLong()
         _, form, names, parts, rows = use
         template = self.forms[form][5][1 if rows else 0]
         fresh = {}
