@@ -10,9 +10,10 @@ NAMES = ["x", "y", "z", "t"]
 class Maker:
     """Makes books, expressions and templates out of a seed."""
 
-    def __init__(self, seed, cells=("c",)):
+    def __init__(self, seed, cells=("c",), heads=None):
         self.random = random.Random(seed)
         self.cells = cells
+        self.heads = heads or HEADS
 
     def pick(self, things):
         return self.random.choice(list(things))
@@ -51,7 +52,7 @@ class Maker:
             return self.atom(names, template)
         if book[2] and roll < 0.45:
             return self.use(depth, book, names, template)
-        head = self.pick(HEADS if template else HEADS + ["plus", "less"])
+        head = self.pick(self.heads if template else self.heads + ["plus", "less"])
 
         def part(more=()):
             return self.node(depth - 1, book, names + list(more), template)
@@ -100,4 +101,6 @@ class Maker:
 
 
 HEADS = ["let", "let", "let", "then", "then", "if", "pair", "first", "second", "show", "while", "set", "catch"]
+# Heads that ask little of kinds.
+KINDLY = ["let", "let", "let", "then", "then", "pair", "show", "first"]
 ARITIES = {"then": 2, "if": 3, "pair": 2, "first": 1, "second": 1, "show": 1, "while": 2, "plus": 2, "less": 2}
