@@ -44,4 +44,7 @@ def is_clash(book, e, thing):
     paths = {path: True for path, _ in nodes_of(e)}
     if not all([path in paths for path in thing]) or can_be(walk, thing):
         return False
-    return all([can_be(walk, [other for other in thing if other != one]) for one in thing])
+    for at in range(len(thing)):
+        if not can_be(walk, thing[:at] + thing[at + 1:]):
+            return False
+    return True

@@ -71,7 +71,10 @@ def _layers_within(x, layers):
 
 
 def _matching(own, passing, unlike):
-    return Matching({one: [other for other in passing if (other, one) not in unlike] for one in own})
+    ties = {}
+    for one in own:
+        ties[one] = [other for other in passing if (other, one) not in unlike]
+    return Matching(ties)
 
 
 def _give_names(names, own, passing, matching):

@@ -48,16 +48,10 @@ def _is_pair_node(thing):
 
 
 def _is_plain_worth(thing):
-    if len_of(thing) != 2:
+    head = headed(thing)
+    if head not in ("number", "truth") or len(thing) != 2:
         return False
-    if thing[0] == "number":
-        return is_figure(thing[1])
-    return thing[0] == "truth" and is_truth_word(thing[1])
-
-
-def len_of(thing):
-    """Give how many items a tuple with a head has, 0 for anything else."""
-    return len(thing) if headed(thing) else 0
+    return is_figure(thing[1]) if head == "number" else is_truth_word(thing[1])
 
 
 def is_kind(thing):
@@ -73,7 +67,7 @@ def is_kind(thing):
 
 
 def _is_plain_kind(thing):
-    head, many = headed(thing), len_of(thing)
+    head = headed(thing)
     if head in ("number", "truth"):
-        return many == 1
-    return head == "any" and many == 2 and is_number(thing[1]) and thing[1] >= 0
+        return len(thing) == 1
+    return head == "any" and len(thing) == 2 and is_number(thing[1]) and thing[1] >= 0

@@ -58,8 +58,8 @@ class Walk:
         node, path, road, names, kind = task
         self.labels[(path, road)] = kind
         if node[0] in ("part", "here"):
-            seen = [(x, names[x]) for x in sorted([x for x in names if isinstance(x, tuple)])]
-            self.seats.append((node, seen, kind))
+            places = sorted([x for x in names if isinstance(x, tuple)])
+            self.seats.append((node, [(place, names[place]) for place in places], kind))
             return []
         if node[0] == "own":
             return self.in_use(task)

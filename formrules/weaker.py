@@ -35,14 +35,14 @@ def _is_weaker(one, other):
     for place, seen, kind in one[1]:
         if place not in seats:
             return False
-        its = {at: its_kind for at, its_kind in seats[place][0]}
-        if not all([at in [mine for mine, _ in seen] for at in its]):
+        mine, its = dict(seen), dict(seats[place][0])
+        if not all([at in mine for at in its]):
             return False
         equal.append((nodes.put(kind, unknowns), nodes.put_fixed(seats[place][1])))
-        for at, mine in seen:
-            # What other does not see there may have any kind around the use, one for each name.
+        for at in mine:
+            # What other does not see there may have any kind around the use, one for each name place.
             wanted = nodes.put_fixed(its[at]) if at in its else nodes.made(("fixed", at))
-            equal.append((nodes.put(mine, unknowns), wanted))
+            equal.append((nodes.put(mine[at], unknowns), wanted))
     return Solution(nodes.shapes, equal).sound
 
 
@@ -76,7 +76,8 @@ def _use_of_other(one, other):
 
 
 def _kinds_in(told):
-    return [its for _, seen, kind in told[1] for its in [one for _, one in seen] + [kind]] + [told[2]]
+    seen = [kind for _, names, _ in told[1] for _, kind in names]
+    return seen + [kind for _, _, kind in told[1]] + [told[2]]
 
 
 def _part_of(kind, names, held):

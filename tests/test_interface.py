@@ -1,0 +1,86 @@
+"""The interface of the document: where names are defined, and what their parameters are called."""
+
+import ast
+import importlib
+import inspect
+import pathlib
+import unittest
+
+import formrules
+
+PARAMETERS = {
+    "words": {"is_name": "thing", "is_sign": "thing", "words_of": "text"},
+    "terms": {"is_worth": "thing", "is_kind": "thing"},
+    "books": {"is_book": "thing", "is_expression": "book thing", "is_core": "thing"},
+    "naming": {"alike": "one other"},
+    "writing": {"once": "book use", "written": "book e"},
+    "running": {"run": "book e inputs most", "steps": "book e inputs most"},
+    "spots": {"spots": "book e"},
+    "sights": {"sights": "book name many", "rule": "book name many", "has_rule": "book name"},
+    "leading": {"binders": "book e", "no_rule": "book name", "is_unclear": "book name thing"},
+    "closed": {"is_closed": "book e"},
+    "likeness": {"same_but_names": "book one other", "first_unlike": "book one other"},
+    "knots": {"knots": "book e", "renamed": "book e knot x", "barred": "book e knot", "moves": "book one other"},
+    "fewnames": {"fewest_names": "book e"},
+    "signatures": {"is_signature": "thing", "is_of": "worth kind", "expression_of": "signature"},
+    "schemes": {"is_scheme": "thing", "scheme": "book name many", "fits": "told names parts signature"},
+    "kinds": {"signature_of": "book e", "kind_of": "book e"},
+    "kindings": {"kinding": "book e", "is_kinding": "book e thing"},
+    "clashes": {"clash": "book e", "is_clash": "book e thing"},
+    "weaker": {"weaker": "one other", "parted": "one other", "is_parted": "one other thing"},
+}
+FOLDER = pathlib.Path(formrules.__file__).parent
+
+
+def trees():
+    """Give (name, text, tree) of all files of the package."""
+    for path in sorted(FOLDER.glob("*.py")):
+        text = path.read_text(encoding="utf-8")
+        yield path.stem, text, ast.parse(text)
+
+
+class Interface(unittest.TestCase):
+    def test_names_and_parameters(self):
+        for file, told in PARAMETERS.items():
+            module = importlib.import_module("formrules." + file)
+            for word, parameters in told.items():
+                function = getattr(module, word)
+                self.assertEqual(function.__module__, "formrules." + file)
+                self.assertEqual(list(inspect.signature(function).parameters), parameters.split())
+
+    def test_init_defines_nothing(self):
+        tree = ast.parse((FOLDER / "__init__.py").read_text(encoding="utf-8"))
+        self.assertTrue(all(isinstance(node, ast.Expr) for node in tree.body))
+
+    def test_files_import_only_from_those_ahead_of_them(self):
+        order = ["errors"] + list(PARAMETERS)
+        imports = {}
+        for file, _, tree in trees():
+            found = [node for node in ast.walk(tree) if isinstance(node, (ast.Import, ast.ImportFrom))]
+            self.assertTrue(all(isinstance(node, ast.ImportFrom) for node in found), file)
+            names = [node.module for node in found]
+            imports[file] = {name.split(".")[1] for name in names if name.startswith("formrules.")}
+            self.assertLessEqual({name for name in names if not name.startswith("formrules.")}, {"heapq"})
+
+        def reached(file, ahead):
+            for other in imports[file]:
+                self.assertNotIn(other, ahead, "files import from each other")
+                yield other
+                yield from reached(other, ahead + [other])
+
+        for file in imports:
+            later = order[order.index(file) + 1:] if file in order else []
+            self.assertEqual([other for other in reached(file, [file]) if other in later], [])
+
+    def test_sizes(self):
+        for file, text, tree in trees():
+            self.assertLessEqual(len(text.splitlines()), 399, file)
+            self.assertLessEqual(max(len(line) for line in text.splitlines()), 120, file)
+            self.assertTrue(all(" " <= one <= "~" or one == "\n" for one in text), file)
+            for node in ast.walk(tree):
+                if isinstance(node, ast.FunctionDef):
+                    self.assertLessEqual(node.end_lineno - node.lineno + 1, 40, (file, node.name))
+
+
+if __name__ == "__main__":
+    unittest.main()
