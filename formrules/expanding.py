@@ -1,6 +1,6 @@
 """Writing out: how great it would be, and doing it; fresh names are numbers until they are named."""
 
-from formrules.shapes import kids, names_in, nodes_of, put_together, use_names, use_parts
+from formrules.shapes import kids, names_in, nodes_of, assembled, use_names, use_parts
 from formrules.shelves import uses_in
 
 
@@ -55,7 +55,7 @@ class Writer:
                     self.fresh += 1
                     given[x] = self.fresh
             nodes.append(node)
-        return put_together(nodes, given, parts)
+        return assembled(nodes, given, parts)
 
     def flat(self, e):
         """List the nodes of what e is written out to, in order; their own parts do not matter."""

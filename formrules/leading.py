@@ -23,7 +23,7 @@ def no_rule(book, name):
     found = Sights(shelf).of((name, many))
     place = first_without_rule(found)
     always, sometimes = found[place]
-    unclear = sorted([one for one in sometimes if one not in always])[0]
+    unclear = min([one for one in sometimes if one not in always])
     return _use_reading(shelf, (name, many), place, unclear)
 
 

@@ -3,7 +3,7 @@
 from formrules.errors import NotSame
 from formrules.guards import need_expression, shelf_of
 from formrules.layers import led
-from formrules.shapes import names_in, nodes_of, put_together, thing_at
+from formrules.shapes import names_in, nodes_of, assembled, thing_at
 
 
 def same_but_names(book, one, other):
@@ -22,7 +22,7 @@ def _shelf_for_both(book, one, other):
 def _blank(e):
     """Give e with the same word at all its spots."""
     nodes = [node for _, node in nodes_of(e)]
-    return put_together(nodes, {x: "" for node in nodes for x in names_in(node)}, {})
+    return assembled(nodes, {x: "" for node in nodes for x in names_in(node)}, {})
 
 
 def first_unlike(book, one, other):

@@ -119,7 +119,7 @@ def _refit_use(use, names, parts):
     return ("own", use[1], tuple(names[:len(use[2])]), tuple(parts[:len(use[3])]), tuple(rows))
 
 
-def put_together(nodes, names, leaves):
+def assembled(nodes, names, leaves):
     """Give what has these nodes in order, with names and leaves exchanged as the dicts tell.
 
     What stands in the part places of the nodes that are passed does not matter.

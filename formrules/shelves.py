@@ -1,6 +1,6 @@
 """A shelf holds the forms of a book, with the rule that is at work for each number of rows."""
 
-from formrules.shapes import kids, nodes_of, own_uses, put_together
+from formrules.shapes import kids, nodes_of, own_uses, assembled
 
 
 class Shelf:
@@ -77,7 +77,7 @@ def _placed(form, many):
             nodes.extend([part for _, part in kids(use)])
         else:
             nodes.append(("here", 0, node[1]) if node[0] == "here" else node)
-    return put_together(nodes, {("row", j): ("row", 0, j) for j in range(form[4][0])}, {})
+    return assembled(nodes, {("row", j): ("row", 0, j) for j in range(form[4][0])}, {})
 
 
 def _rest(form, many):

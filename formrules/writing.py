@@ -4,7 +4,7 @@ from formrules.errors import BadUse, TooMany
 from formrules.expanding import Sizes, Writer
 from formrules.freenames import free_names, words_in
 from formrules.guards import shelf_for
-from formrules.shapes import names_in, nodes_of, put_together
+from formrules.shapes import names_in, nodes_of, assembled
 
 MOST_NODES = 1000
 
@@ -40,4 +40,4 @@ def _named(nodes, e):
                     if not isinstance(x, str):
                         fresh[x] = True
     named = free_names(words_in(e), len(fresh))
-    return put_together(nodes, {x: name for x, name in zip(fresh, named)}, {})
+    return assembled(nodes, {x: name for x, name in zip(fresh, named)}, {})
