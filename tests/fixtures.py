@@ -92,5 +92,5 @@ ODDITIES = [
     ("number", True), ("number", 8), ("number", -1), ("number", "1"), ("truth", "maybe"), ("truth", True),
     ("name", "if"), ("name", "X"), ("name", "abcdefghi"), ("name", 1), ("name", ["x"]), ("ask", 1), ("ask", ()),
     ("let", "x", ("ask",)), ("pair", ("ask",), 1), ("pair", ("ask",)), (("ask",),), ("number", 1, 2), {1: 2}, set(),
-    ("any", -1), ("any", True), ("any",), ("own",), ("own", "f", (), (), ()), ("own", [], (), (), ()), object(),
+    ("any", -1), ("any", True), ("any",), ("own",), ("own", "f", (), (), ()), ("own", [], (), (), ()), object(), ([],), ({}, 1), (None,),
 ]

@@ -40,6 +40,13 @@ class Books(unittest.TestCase):
         # Words of core that are not kept are names as others are, and a form may be called as a cell is.
         self.assertIs(is_book(book(form("number", 0, 0, None, num(1)), form("c", 0, 0, None, num(1)), cells=("c",))), True)
 
+    def test_forms(self):
+        right = form("new", 0, 0, None, num(1))
+        self.assertIs(is_book(book(right)), True)
+        for thing in ODDITIES + [right[:5], right + (1,), ("rule",) + right[1:], list(right), right[1:], ("form",)]:
+            self.assertIs(is_book(book(thing)), False, thing)
+            self.assertIs(is_book(book(right, thing)), False, thing)
+
     def test_numbers_of_places(self):
         for binds, parts, right in ((3, 4, True), (0, 0, True), (4, 0, False), (0, 5, False), (-1, 0, False),
                                     (True, 0, False), (0, False, False), ("1", 0, False), (None, 0, False)):
@@ -62,7 +69,7 @@ class Books(unittest.TestCase):
             self.assertIs(is_book(with_rule(rule, ahead=(TWICE, SEQ))), True, rule)
         for rule in ODDITIES + [
             ("plus", P0, P0), ("less", P0, P0), ("part", 1), ("part", -1), ("part", True), ("part",), ("part", 0, 0),
-            ("let", ("bind", 1), P0, P0), ("let", ("bind", False), P0, P0), ("let", R0, P0, P0), ("let", "if", P0, P0),
+            ("let", ("bind", 1), P0, P0), ("let", ("bind", False), P0, P0), ("let", ("bind", 0, 0), P0, P0), ("let", R0, P0, P0), ("let", "if", P0, P0),
             H0, ("rest",), ("bind", 0), ("get", "d"), ("set", "d", P0), ("get", B0), ("fail", B0), ("catch", B0, P0, P0),
             own("new", [B0], [P0]), own("odd", [B0], [P0]), own("twice", [], [P0, P0]), own("twice", [B0], [P0]),
             own("twice", [B0], [P0, P0], [([], [])]), own("seq", [], [P0], [(["x"], [])]), ("part", [0]),
@@ -72,14 +79,17 @@ class Books(unittest.TestCase):
                 self.assertIs(is_book(with_rule(rule, ahead=(TWICE, SEQ))), False, rule)
         for rule in (H0, R0, ("rest",), ("here", 1), ("row", 0)):
             self.assertIs(is_book(with_rule(rule, P0, row=row)), False)
-        for rule in (("here", 1), ("here", True), ("rest", 0), ("let", ("row", 1), P0, P0), ("let", ("row", 0, 0), P0, P0)):
+        for rule in ODDITIES:
+            if rule not in (("ask",), ("name", "x")):
+                self.assertIs(is_book(with_rule(P0, rule, row=row)), False)
+        for rule in (("here", 1), ("here", True), ("here", 0, 0), ("rest", 0), ("more",), ("let", ("row", 1), P0, P0), ("let", ("row", 0, 0), P0, P0)):
             self.assertIs(is_book(with_rule(P0, rule, row=row)), False)
         for rule in (H0, ("rest",), ("pair", ("rest",), ("rest",)), ("let", R0, H0, name(R0)), P0, num(1)):
             self.assertIs(is_book(with_rule(P0, rule, row=row)), True)
 
     def test_what_a_template_reads(self):
         for rule in (name("x"), name(B0), ("let", "x", name("x"), P0), ("then", ("let", B0, P0, P0), name(B0)),
-                     ("let", B0, P0, name(B1)), ("let", "x", P0, name("y"))):
+                     ("let", B0, P0, name(B1)), ("let", "x", P0, name("y")), ("catch", "x", P0, name("x"))):
             self.assertIs(is_book(with_rule(rule, binds=2)), False, rule)
         first = ("let", R0, H0, name(R0))
         self.assertIs(is_book(with_rule(P0, first, row=(1, 1))), True)

@@ -61,7 +61,8 @@ class SignatureOf(unittest.TestCase):
         for e in (("first", num(1)), ("plus", YES, num(1)), ("if", num(1), num(1), num(1)), ("if", YES, num(1), YES),
                   ("while", num(1), num(1)), ("set", "c", YES), ("catch", "w", num(1), YES), ("less", num(1), NO),
                   ("let", "x", num(1), ("if", name("x"), num(1), num(1))), ("if", YES, name("x"), ("pair", name("x"), num(1))),
-                  ("then", ("plus", name("x"), num(1)), ("if", name("x"), num(1), num(1)))):
+                  ("then", ("plus", name("x"), num(1)), ("if", name("x"), num(1), num(1))),
+                  ("pair", ("if", YES, name("x"), ("pair", name("y"), ASK)), ("if", YES, name("y"), ("pair", name("x"), ASK)))):
             self.assertIsNone(signature_of(MIXED, e), e)
 
     def test_uses(self):
@@ -179,6 +180,9 @@ class Kinding(unittest.TestCase):
         for thing in wrong + ODDITIES:
             self.assertIs(is_kinding(BOOK58, USE58, thing), False, thing)
         self.assertIs(is_kinding(BOOK58, USE58, ("kinding", (("x", N),), labels)), True)
+        for thing in (("kinding", (), (((), (), T, 1),)), ("kinding", (), (((), ()),)), ("kinding", (), (1,))):
+            self.assertIs(is_kinding(MIXED, YES, thing), False)
+        self.assertIs(is_kinding(MIXED, own("broken", [], [YES]), ("kinding", (), (((), (), N),))), False)
         # The name is a number at the one seat, a truth at the other one.
         for kind in (N, T, A0):
             labels = (((), (), ("pair", kind, T)), ((3, 0), (0,), T), ((3, 0), (3,), T), ((3, 1), (1,), ("pair", kind, T)), ((3, 1), (2,), kind))

@@ -246,6 +246,20 @@ class FewestNames(unittest.TestCase):
         self.check(BOOK47, ("let", "x", ASK, own("odd", ["y"], [name("x")])), 2)
         rows = [(["x"], [num(1)]), (["y"], [name("x")]), (["z"], [name("y")])]
         self.check(MIXED, own("seq", [], [name("z")], rows), 3)
+        # A row's name stands behind what stands in the parts, in the order of tuples.
+        e = own("seq", [], [("let", "y", ASK, name("y"))], [(["x"], [num(1)])])
+        self.assertEqual(fewest_names(MIXED, e)[0], (((3, 0, 1), (4, 0, 0, 0)),))
+        e = own("seq", [], [("let", "y", ASK, name("x"))], [(["x"], [num(1)])])
+        self.assertEqual(fewest_names(MIXED, e)[0], (((3, 0, 1),), ((4, 0, 0, 0),)))
+
+    def test_what_is_matched_may_have_to_be_matched_anew(self):
+        alone = form("alone", 3, 3, None, ("then", ("let", B0, num(1), P0), (
+            "then", ("let", B1, num(1), P1), ("let", ("bind", 2), num(1), P2))))
+        both = ("pair", name("a"), name("b"))
+        for parts in ([both, num(0), name("b")], [both, name("b"), num(0)], [name("b"), both, num(0)], [num(0), name("b"), both],
+                      [("pair", name("b"), name("a")), num(0), name("a")], [name("a"), num(0), both]):
+            e = ("let", "a", ASK, ("let", "b", ASK, own("alone", ["p", "q", "r"], parts)))
+            self.check(book(alone), e, 3)
 
     def test_matchings_tell(self):
         def around(parts):

@@ -156,6 +156,18 @@ class Scheme(unittest.TestCase):
         self.assertEqual(told_of(0, 1, rule), ("scheme", ((P0, (), N),), N))
         rule = ("then", ("set", "c", P0), ("then", ("if", YES, P0, P0), num(1)))
         self.assertEqual(told_of(0, 1, rule), ("scheme", ((P0, (), N),), N))
+        rule = ("if", YES, P0, ("if", YES, P0, ("if", YES, P0, P0)))
+        self.assertEqual(told_of(0, 1, rule), ("scheme", ((P0, (), A0),), A0))
+        # The first seat becomes the second one, which bears the unknown in its first half alone then, and
+        # becomes the third one.
+        halves = ("let", "t", P0, ("then", ("set", "c", ("second", name("t"))), ("first", name("t"))))
+        last = ("let", "t", P0, ("then", ("set", "c", ("second", name("t"))), ("if", ("first", name("t")), num(1), num(1))))
+        rule = ("then", ("if", YES, ("first", P0), halves), last)
+        self.assertEqual(told_of(0, 1, rule), ("scheme", ((P0, (), ("pair", T, N)),), N))
+        # One unknown is filled by one kind.
+        twins = ("let", "t", P0, ("if", YES, ("first", name("t")), ("second", name("t"))))
+        self.assertEqual(told_of(0, 1, ("then", twins, last)), ("scheme", (
+            (P0, (), ("pair", A0, A0)), (P0, (), ("pair", T, N))), N))
         # Seats of two places with one unknown: none goes ahead of the other one.
         rule = ("then", ("if", YES, P0, P1), ("then", ("if", YES, P0, P1), ("then", ("set", "c", P0), ("show", num(1)))))
         self.assertEqual(told_of(0, 2, rule), ("scheme", ((P0, (), A0), (P1, (), A0), (P0, (), A1), (P1, (), A1), (P0, (), N)), N))

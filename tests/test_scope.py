@@ -208,6 +208,8 @@ class Leading(unittest.TestCase):
         self.assertIs(is_unclear(BOOK47, "odd", (use, (3, 0, 1, 1))), True)
         for thing in [(use, (3, 0, 2, 1)), (use, (3, 0, 1)), (use, [3, 0, 1, 1]), [use, (3, 0, 1, 1)], (use,), (use, None),
                       (use, (3, False, 1, 1)), (use, (3, 0, True, 1)), (use, (3, 0, 1, 1), 1), (("show", use), (1, 3, 0, 1, 1)),
+                      (1, ()), (None, (1,)), (own("odd", [], [name("x")]), (3, 0, 1)), (name("odd"), (1,)),
+                      (("let", "odd", ASK, ASK), (1,)), (own("odd", ["x"], []), (2, 0)),
                       (own("odd", ["x"], [own("odd", ["y"], [name("x")])]), (3, 0, 3, 0, 1)),
                       (own("calm", [], [name("x")]), (3, 0, 1)), (own("odd", ["x"], [P0]), (3, 0, 1)),
                       (own("odd", ["x"], [("let", "x", ASK, name("x"))]), (3, 0, 3, 1)), (use, ([], 0))] + ODDITIES:

@@ -112,6 +112,8 @@ class Weaker(unittest.TestCase):
         one, other = told((P1, [], A0), (P0, [], N)), told((P0, [], A0))
         self.assertIs(is_parted(one, other, ((), ((P0, YES),), ((), N))), False)
         self.assertIs(is_parted(one, other, ((), ((P0, YES), (P1, ASK)), ((), N))), True)
+        self.assertIs(is_parted(told(kind=T), told((P0, [], N)), ((), (), ((), N))), False)
+        self.assertIs(is_parted(told(kind=T), told((P0, [], N)), ((), ((P0, ASK),), ((), N))), True)
 
 
 A5 = ("any", 5)

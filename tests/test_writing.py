@@ -40,7 +40,8 @@ class Alike(unittest.TestCase):
         for one, other in ((num(1), num(2)), (num(1), YES), (("get", "c"), ("get", "d")), (("fail", "v"), ("fail", "w")),
                            (("catch", "v", ASK, ASK), ("catch", "w", ASK, ASK)), (ASK, ("show", ASK)),
                            (("pair", ASK, num(1)), ("pair", num(1), ASK)), (("first", ASK), ("second", ASK)),
-                           (("set", "c", ASK), ("set", "d", ASK)), (("let", "x", ASK, ASK), ("then", ASK, ASK))):
+                           (("set", "c", ASK), ("set", "d", ASK)), (("let", "x", ASK, ASK), ("then", ASK, ASK)),
+                           (("pair", ("let", "x", ASK, ASK), YES), ("pair", ASK, ("let", "x", ASK, YES)))):
             self.assertIs(alike(one, other), False)
             self.assertIs(alike(one, one), True)
 
