@@ -155,3 +155,56 @@ class Finder(Inference):
             its = self.seat(self.in_rest(place), inner) if e is None else self.kind(e, inner)
             self.same(its, new(kind))
         return new(told[2])
+
+
+class Freed(Inference):
+    """Inference in an expression in which only nodes at some paths ask for kinds."""
+
+    def __init__(self, schemes, asked):
+        super().__init__()
+        self.schemes = schemes
+        self.asked = asked
+
+    def can_be(self, e):
+        self.at(e, (), {})
+        return self.right
+
+    def at(self, e, path, names):
+        asks = path in self.asked
+        if e[0] == "own":
+            return self.at_use(e, path, names, asks)
+        if e[0] == "name":
+            kind = names.get(e[1]) or self.free.setdefault(e[1], self.new())
+        elif e[0] == "let":
+            its = self.at(e[2], path + (2,), names)
+            kind = self.at(e[3], path + (3,), {**names, e[1]: its if asks else self.new()})
+        else:
+            fields = enumerate(zip(naive.ARITY[e[0]], e[1:]), start=1)
+            parts = [self.at(item, path + (at,), names) for at, (what, item) in fields if what == "e"]
+            kind = self.made(e[0], parts) if asks else None
+        return kind if asks else self.new()
+
+    def at_use(self, use, path, names, asks):
+        told = self.schemes.of(use[1], len(use[4]))
+        if told is None:
+            self.right = self.right and not asks
+            return self.new()
+        given = {("bind", j): x for j, x in enumerate(use[2])}
+        given.update({("row", k, j): x for k, row in enumerate(use[4]) for j, x in enumerate(row[0])})
+        fresh = {}
+
+        def new(kind):
+            if kind[0] == "any":
+                return fresh.setdefault(kind[1], self.new())
+            return ("pair", new(kind[1]), new(kind[2])) if kind[0] == "pair" else kind
+
+        for place, seen, kind in told[1]:
+            steps = (3, place[1]) if place[0] == "part" else (4, place[1], 1, place[2])
+            part = use
+            for at in steps:
+                part = part[at]
+            inner = {**names, **{given[at]: new(its) if asks else self.new() for at, its in seen}}
+            its = self.at(part, path + steps, inner)
+            if asks:
+                self.same(its, new(kind))
+        return new(told[2]) if asks else self.new()

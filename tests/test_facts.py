@@ -402,6 +402,7 @@ class Kinds(unittest.TestCase):
                 if lot is not None:
                     self.assertIs(is_clash(book, e, lot), True)
                     self.assertIs(is_clash(book, e, lot[1:]), False)
+                    self.check_clash(book, e, lot)
                     continue
                 self.assertIs(is_kinding(book, e, found), True)
                 self.assertEqual((found[1], found[2][0][2]), signature_of(book, e))
@@ -410,6 +411,13 @@ class Kinds(unittest.TestCase):
                 labels = tuple((path, road, self.filled(maker, kind, filling)) for path, road, kind in found[2])
                 self.assertIs(is_kinding(book, e, ("kinding", names, labels)), True)
         self.assertGreater(min(told.values()), 50)
+
+    def check_clash(self, book, e, lot):
+        """Hold a clash against kinds that are asked of some nodes alone."""
+        schemes = naivekinds.Schemes(book)
+        self.assertIs(naivekinds.Freed(schemes, lot).can_be(e), False)
+        for path in lot:
+            self.assertIs(naivekinds.Freed(schemes, set(lot) - {path}).can_be(e), True)
 
     def test_uses_show_what_is_weaker(self):
         tried = 0
