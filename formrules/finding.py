@@ -1,14 +1,10 @@
 """Finding the schemes of forms out of those of the forms within."""
 
+from formrules.blocks import Blocks
 from formrules.errors import TooMany
-from formrules.kindtables import KindReader, KindTable
-from formrules.seats import Seats
+from formrules.kindtables import MOST_SEATS, need_small
+from formrules.moulds import mould_of
 from formrules.shelves import uses_in
-from formrules.solving import Solution
-from formrules.walks import Walk
-
-MOST_SEATS = 100
-MOST_IN_KIND = 200
 
 
 class Schemes:
@@ -34,18 +30,11 @@ class Schemes:
                 self.known[pair] = self._found(pair)
 
     def _found(self, pair):
-        walk = Walk(self.known)
-        top = walk.go(self.shelf.rule(pair), (), {})
-        solution = Solution(walk.nodes.shapes, [(one, other) for _, one, other in walk.equal])
-        if walk.lost or not solution.sound:
+        mould = mould_of(self.known, self.shelf.rule(pair))
+        if mould is None:
             return None
-        table = KindTable()
-        reader = KindReader(solution, table)
-        seats = []
-        for place, seen, kind in walk.seats:
-            seats.append((place, tuple([(at, reader.read(one)) for at, one in seen]), reader.read(kind)))
-        whole = reader.read(top)
-        return _told(table, Seats(table, seats, whole).least(), whole)
+        blocks = Blocks(mould)
+        return _told(blocks.table, blocks.least(), blocks.whole)
 
 
 def _told(table, seats, whole):
@@ -63,9 +52,3 @@ def _told(table, seats, whole):
         names = tuple([(at, kinds.pop()) for at, _ in seen])
         told.append((place, names, kinds.pop()))
     return ("scheme", tuple(told), kinds.pop())
-
-
-def need_small(table, indexes):
-    """TooMany(100) if one of these kinds has more than 200 nodes."""
-    if any([table.sizes[at] > MOST_IN_KIND for at in indexes]):
-        raise TooMany(MOST_SEATS)

@@ -1,8 +1,7 @@
 """Kindings: the kinds of all nodes of an expression, on all roads."""
 
-from formrules.finding import need_small
 from formrules.guards import is_path
-from formrules.kindtables import KindReader, KindTable
+from formrules.kindtables import KindReader, KindTable, need_small
 from formrules.roads import solution_of, walk_of
 from formrules.signatures import is_signature
 from formrules.terms import headed, is_kind

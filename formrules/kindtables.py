@@ -1,6 +1,10 @@
 """Tables of kinds in which equal kinds have one index, however great they are."""
 
+from formrules.errors import TooMany
 from formrules.solving import NUMBER, TRUTH
+
+MOST_SEATS = 100
+MOST_IN_KIND = 200
 
 
 class KindTable:
@@ -91,8 +95,18 @@ class KindReader:
             return
         shape = self.solution.shapes[at]
         if shape is None:
-            shape = ("any", self.labels)
-            self.labels += 1
+            shape = ("any", self.label())
         elif shape not in (NUMBER, TRUTH):
             shape = ("pair",) + tuple([self.indexes[one] for one in self.solution.below(at)])
         self.indexes[at] = self.table.entry(shape)
+
+    def label(self):
+        """Give a new label of an unknown."""
+        self.labels += 1
+        return self.labels
+
+
+def need_small(table, indexes):
+    """TooMany(100) if one of these kinds has more than 200 nodes."""
+    if any([table.sizes[at] > MOST_IN_KIND for at in indexes]):
+        raise TooMany(MOST_SEATS)

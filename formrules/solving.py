@@ -96,6 +96,10 @@ class Solution:
                 self.up[one] = other
             elif its is None:
                 self.up[other] = one
+            elif self.put_off(one, other):
+                continue
+            elif self.look_into(one) or self.look_into(other):
+                todo.append((one, other))
             elif mine[0] == "pair" and its[0] == "pair":
                 self.up[one] = other
                 todo.extend([(mine[1], its[1]), (mine[2], its[2])])
@@ -104,6 +108,14 @@ class Solution:
             else:
                 return False
         return True
+
+    def put_off(self, one, other):
+        """Tell whether two roots became one without being looked into; here everything is looked into."""
+        return False
+
+    def look_into(self, at):
+        """Tell whether a root became plainer by being looked into; here everything is plain."""
+        return False
 
     def below(self, at):
         """List the roots of the halves of a pair; anything else has none."""

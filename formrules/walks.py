@@ -58,8 +58,7 @@ class Walk:
         node, path, road, names, kind = task
         self.labels[(path, road)] = kind
         if node[0] in ("part", "here"):
-            places = sorted([x for x in names if isinstance(x, tuple)])
-            self.seats.append((node, [(place, names[place]) for place in places], kind))
+            self.seats.append((node, seen_in(names), kind))
             return []
         if node[0] == "own":
             return self.in_use(task)
@@ -136,3 +135,8 @@ def with_names(names, kinds):
     for x, kind in kinds:
         inner[x] = kind
     return inner
+
+
+def seen_in(names):
+    """List the name places among names, ascending, with their kinds."""
+    return [(place, names[place]) for place in sorted([x for x in names if isinstance(x, tuple)])]
