@@ -22,9 +22,9 @@ def _is_seat(thing):
     if not isinstance(thing, tuple) or len(thing) != 3:
         return False
     place, seen, kind = thing
-    if not _is_place(place, "part", "here") or not isinstance(seen, tuple) or not is_kind(kind):
+    if not is_place(place, "part", "here") or not isinstance(seen, tuple) or not is_kind(kind):
         return False
-    if not all([_is_pair(one) and _is_place(one[0], "bind", "row") and is_kind(one[1]) for one in seen]):
+    if not all([_is_pair(one) and is_place(one[0], "bind", "row") and is_kind(one[1]) for one in seen]):
         return False
     places = [at for at, _ in seen]
     return all([one < other for one, other in zip(places, places[1:])])
@@ -34,7 +34,7 @@ def _is_pair(thing):
     return isinstance(thing, tuple) and len(thing) == 2
 
 
-def _is_place(thing, plain, in_row):
+def is_place(thing, plain, in_row):
     """Tell whether any value is a place with one of these heads, the second one for rows."""
     if headed(thing) not in (plain, in_row) or len(thing) != (2 if thing[0] == plain else 3):
         return False
@@ -84,7 +84,7 @@ def are_parts(thing):
 def _are_placed(thing, plain, in_row):
     if not isinstance(thing, tuple):
         return False
-    if not all([_is_pair(one) and _is_place(one[0], plain, in_row) for one in thing]):
+    if not all([_is_pair(one) and is_place(one[0], plain, in_row) for one in thing]):
         return False
     return len({place: True for place, _ in thing}) == len(thing)
 

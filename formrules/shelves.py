@@ -53,11 +53,24 @@ class Shelf:
         heres = [("here", k, i) for k in range(pair[1]) for i in range(form[4][1])]
         return heres + [("part", i) for i in range(form[3])]
 
+    def placed_parts(self, pair):
+        """List all part places of a form with so many rows in their order, parts ahead of rows."""
+        return sorted(self.part_places(pair), key=place_rank)
+
+    def open_use(self, pair):
+        """Give the own use of a form with so many rows with its places as names and parts."""
+        return _open_use(self.forms[pair[0]], 0, pair[1])
+
     def name_places(self, pair):
-        """List all name places of a form with so many rows, ascending as tuples."""
+        """List all name places of a form with so many rows, in their order, which is that of tuples."""
         form = self.forms[pair[0]]
         binds = [("bind", j) for j in range(form[2])]
         return binds + [("row", k, j) for k in range(pair[1]) for j in range(form[4][0])]
+
+
+def place_rank(place):
+    """Give what places are to be sorted by: those of rows come behind the others."""
+    return (len(place), place[1:])
 
 
 def uses_in(e):
@@ -72,7 +85,7 @@ def _placed(form, many):
     nodes = []
     for _, node in nodes_of(form[5][1]):
         if node[0] == "rest":
-            use = _rest(form, many)
+            use = _open_use(form, 1, many)
             nodes.append(use)
             nodes.extend([part for _, part in kids(use)])
         else:
@@ -80,11 +93,11 @@ def _placed(form, many):
     return assembled(nodes, {("row", j): ("row", 0, j) for j in range(form[4][0])}, {})
 
 
-def _rest(form, many):
-    """Give the own use that ("rest",) stands for in the template for many rows."""
+def _open_use(form, first, many):
+    """Give the own use of a form with its places as names and parts, its rows being those from first on."""
     names = tuple([("bind", j) for j in range(form[2])])
     parts = tuple([("part", i) for i in range(form[3])])
-    rows = [(_indexed("row", k, form[4][0]), _indexed("here", k, form[4][1])) for k in range(1, many)]
+    rows = [(_indexed("row", k, form[4][0]), _indexed("here", k, form[4][1])) for k in range(first, many)]
     return ("own", form[1], names, parts, tuple(rows))
 
 

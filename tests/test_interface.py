@@ -28,6 +28,17 @@ PARAMETERS = {
     "kindings": {"kinding": "book e", "is_kinding": "book e thing"},
     "clashes": {"clash": "book e", "is_clash": "book e thing"},
     "weaker": {"weaker": "one other", "parted": "one other", "is_parted": "one other thing"},
+    "plains": {"is_plain": "thing", "plain": "book name many", "is_filling": "one other", "common": "one other"},
+    "evens": {"even_kind": "book name", "first_uneven": "book name"},
+    "places": {"places": "book name many", "outcomes": "kind"},
+    "opened": {"played": "book name many answers most plain"},
+    "sheets": {"is_sheet": "book name many thing plain", "sheet_played": "book name many sheet answers most plain"},
+    "least": {"least": "book name many sheet plain", "behaviour": "book name many plain"},
+    "apart": {"first_apart": "book one other many plain"},
+    "together": {"within": "book name many", "put_together": "book name many sheets"},
+    "sources": {"sources": "book name many place plain", "gives": "book name many plain"},
+    "sides": {"exchanged": "book name other e"},
+    "surroundings": {"unlike": "book name other many", "tells": "book name other many thing", "probe": "book name other many"},
 }
 FOLDER = pathlib.Path(formrules.__file__).parent
 
