@@ -10,6 +10,8 @@ from formrules.terms import MOST_NUMBER
 
 # Nodes of which at first only the first part is worked out.
 LED_BY_FIRST = ("let", "if")
+# Nodes that stand only in what is not written out.
+OTHERS = ("own", "part", "here")
 
 
 class Machine:
@@ -41,12 +43,25 @@ class Machine:
         """Put a task ahead of all others."""
         self.todo.append((word, node, names, more))
 
+    def tick(self):
+        """Note that a node is begun."""
+        self.steps += 1
+
+    def note(self, what):
+        """Note that a cell was read or set; here nobody asks."""
+
     def tell(self, event):
         """Add an event, or end where it is one too many."""
         if len(self.events) == self.most:
             self.end = ("more",)
         else:
             self.events.append(event)
+
+    def enter(self, node, names):
+        """Begin an own use, or what is given for a place of a rule; core expressions have none of these."""
+
+    def leave(self, place, seen, outcome):
+        """Note how what was given for a place has ended; core expressions have no places."""
 
     def taken(self, heads):
         """Take the last worths, in order, and list what they hold; be stuck if a head is another one."""
@@ -63,7 +78,10 @@ def _begin(machine, node, names, _):
     if head == "while":
         machine.plan("turn", node, names, {})
         return
-    machine.steps += 1
+    if head in OTHERS:
+        machine.enter(node, names)
+        return
+    machine.tick()
     if head == "catch":
         machine.plan("guarded", node, names, len(machine.worths))
         machine.plan("begin", node[2], names, None)
@@ -87,7 +105,7 @@ def _turn(machine, node, names, seen):
         machine.end = ("never",)
         return
     seen[state] = True
-    machine.steps += 1
+    machine.tick()
     machine.plan("tested", node, names, seen)
     machine.plan("begin", node[1], names, None)
 
@@ -162,13 +180,19 @@ def _then(machine, node, _):
     machine.worths.append(last)
 
 
+def _left(machine, place, _, seen):
+    machine.leave(place, seen, ("ends", machine.worths[-1]))
+
+
 def _get(machine, node, _):
+    machine.note(("reads", node[1]))
     machine.worths.append(("number", machine.cells[node[1]]))
 
 
 def _set(machine, node, _):
     held = machine.taken(["number"])
     if held is not None:
+        machine.note(("sets", node[1]))
         machine.cells[node[1]] = held[0][0]
         machine.worths.append(("number", held[0][0]))
 
@@ -190,9 +214,11 @@ def _ask(machine, node, _):
 def _fail(machine, node, _):
     """Go back to the nearest catch of this fault in whose first part it comes."""
     while machine.todo:
-        word, around, names, depth = machine.todo.pop()
-        if word == "guarded" and around[1] == node[1]:
-            machine.worths = machine.worths[:depth]
+        word, around, names, more = machine.todo.pop()
+        if word == "left":
+            machine.leave(around, more, ("fails", node[1]))
+        elif word == "guarded" and around[1] == node[1]:
+            machine.worths = machine.worths[:more]
             machine.plan("begin", around[3], names, None)
             return
     machine.end = ("fails", node[1])
@@ -200,6 +226,7 @@ def _fail(machine, node, _):
 
 ACTIONS = {
     "begin": _begin, "finish": _finish, "turn": _turn, "tested": _tested, "turned": _turned, "guarded": _guarded,
+    "left": _left,
 }
 FINISHES = {
     "number": _number, "truth": _number, "name": _name, "let": _let, "pair": _pair, "first": _half,

@@ -144,7 +144,7 @@ class Player:
         k = self.script.placed[node][place]
         part = self.script.parts[node][k]
         says = {x: term for x, term in zip(self.script.needs[part], self.known(node, terms, k, None))}
-        for x, term in zip(self.script.given[node], seen):
+        for x, term in zip(self.script.given[node].values(), seen):
             if term is not None and x in says:
                 says[x] = term
         self.push("begin", part, list(says.values()))

@@ -21,10 +21,20 @@ def steps(book, e, inputs, most):
     return None if machine.end == ("never",) else machine.steps
 
 
+def need_inputs(thing):
+    """BadInputs unless any value is a list of numbers from 0 to 7."""
+    if not are_inputs(thing):
+        raise BadInputs("this is no list of numbers from 0 to 7")
+
+
+def are_inputs(thing):
+    """Tell whether any value is a list of numbers from 0 to 7."""
+    return isinstance(thing, (list, tuple)) and all([is_figure(one) for one in thing])
+
+
 def _worked(book, e, inputs, most):
     shelf = shelf_for(book, e)
-    if not isinstance(inputs, (list, tuple)) or not all([is_figure(one) for one in inputs]):
-        raise BadInputs("this is no list of numbers from 0 to 7")
+    need_inputs(inputs)
     if not is_below(most, MOST_EVENTS + 1):
         raise BadMost("this is no number from 0 to 200")
     machine = Machine(book[1], inputs, most)

@@ -29,18 +29,22 @@ class Script:
     def _find_needs(self, at):
         node = self.nodes[at]
         bound = [self._bound(node, steps) for steps, _ in kids(node)]
-        if node[0] == "name":
-            self.needs[at] = (node[1],)
-        elif node[0] in PLACES:
-            self.needs[at] = tuple(self.names)
-        else:
-            needs = {}
-            for x, part in zip(bound, self.parts[at]):
-                needs.update({one: True for one in self.needs[part] if one != x})
-            self.needs[at] = tuple(needs)
+        self.needs[at] = self.needed(at, bound)
         where = {x: k for k, x in enumerate(self.needs[at])}
         for x, part in zip(bound, self.parts[at]):
             self.ways[at].append([None if one == x else where[one] for one in self.needs[part]])
+
+    def needed(self, at, bound):
+        """Give the names that a node needs; bound has for each of its parts the name that is let there, or None."""
+        node = self.nodes[at]
+        if node[0] == "name":
+            return (node[1],)
+        if node[0] in PLACES:
+            return tuple(self.names)
+        needs = {}
+        for x, part in zip(bound, self.parts[at]):
+            needs.update({one: True for one in self.needs[part] if one != x})
+        return tuple(needs)
 
     def _bound(self, node, steps):
         return node[1] if node[0] == "let" and steps == IN_LET else None
@@ -52,21 +56,31 @@ def written_script(shelf, pair, settled):
     return Script(nodes, shelf.name_places(pair), {place: True for place in settled})
 
 
-class UseScript(Script):
-    """The script of a placed template that is not written out; sheets play its own uses.
+class UsesScript(Script):
+    """The script of an expression or placed template that is not written out, so that own uses stand in it.
+
+    given tells for each own use its names by their places, placed which of its parts is at which place.
+    """
+
+    def __init__(self, e, names):
+        Script.__init__(self, [node for _, node in nodes_of(e)], names, {})
+        self.given = {}
+        self.placed = {}
+        for at, node in enumerate(self.nodes):
+            if node[0] == "own":
+                self.given[at] = {place: x for place, _, x in use_names(node)}
+                self.placed[at] = {place: k for k, (place, _, _) in enumerate(use_parts(node))}
+
+
+class SheetScript(UsesScript):
+    """The script of a placed template whose own uses are played by sheets.
 
     sheets tells for each pair (form, rows) its sheet, and the kinds of its part places.
     """
 
     def __init__(self, e, names, sheets):
-        Script.__init__(self, [node for _, node in nodes_of(e)], names, {})
+        UsesScript.__init__(self, e, names)
         self.sheets = sheets
-        self.given = {}
-        self.placed = {}
-        for at, node in enumerate(self.nodes):
-            if node[0] == "own":
-                self.given[at] = [x for _, _, x in use_names(node)]
-                self.placed[at] = {place: k for k, (place, _, _) in enumerate(use_parts(node))}
 
     def sheet(self, at):
         """Give the pair of the sheet and of the kinds of the part places of an own use."""

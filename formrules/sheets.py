@@ -6,7 +6,7 @@ from formrules.opened import need_answers, need_most, play_of
 from formrules.places import outcomes_from, things_of
 from formrules.plainguards import plain_at_work
 from formrules.schemes import is_place
-from formrules.scripts import UseScript
+from formrules.scripts import SheetScript
 from formrules.solving import NUMBER, TRUTH, unknowns_of
 from formrules.terms import headed, is_below, is_kind, is_worth
 from formrules.words import is_name
@@ -32,7 +32,7 @@ def sheet_played(book, name, many, sheet, answers, most, plain=None):
     told = plain_at_work(shelf, name, many, plain)
     need_sheet(book[1], told, sheet)
     kinds = dict(told[2])
-    script = UseScript(shelf.open_use((name, many)), shelf.name_places((name, many)), {(name, many): (sheet, kinds)})
+    script = SheetScript(shelf.open_use((name, many)), shelf.name_places((name, many)), {(name, many): (sheet, kinds)})
     return play_of(script, book[1], kinds, answers, most)
 
 

@@ -13,7 +13,8 @@ from formrules.shapes import FIELDS, assembled, nodes_of
 
 ASK = ("ask",)
 YES = ("truth", "yes")
-LOW, HIGH = 0, 5
+LOW = 0
+HIGH = 5
 # An input says yes if it is below this number.
 SAYS_YES = ("less", ASK, ("number", 1))
 FIGURES = 8

@@ -5,7 +5,7 @@ from formrules.guards import shelf_with_rows
 from formrules.least import least_of
 from formrules.plainguards import need_few_rows
 from formrules.plains import weakest_plain
-from formrules.scripts import UseScript
+from formrules.scripts import SheetScript
 from formrules.sheets import is_sheet_of
 from formrules.terms import is_number
 
@@ -35,7 +35,7 @@ def put_together(book, name, many, sheets):
     if not _are_sheets(book[1], plains, inner, sheets):
         raise BadSheets("these are no sheets of the forms within")
     played = {pair: (sheets[pair], dict(plains[pair][2])) for pair in inner}
-    script = UseScript(shelf.rule((name, many)), shelf.name_places((name, many)), played)
+    script = SheetScript(shelf.rule((name, many)), shelf.name_places((name, many)), played)
     return least_of(script, book[1], plains[(name, many)])
 
 

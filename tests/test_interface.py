@@ -39,6 +39,16 @@ PARAMETERS = {
     "sources": {"sources": "book name many place plain", "gives": "book name many plain"},
     "sides": {"exchanged": "book name other e"},
     "surroundings": {"unlike": "book name other many", "tells": "book name other many thing", "probe": "book name other many"},
+    "freedoms": {"is_lot": "book name many thing", "freedoms": "book use", "keeps_within": "book name many lot e"},
+    "weakest": {"breaks": "book name other many lot", "greatest_lots": "book name other many", "breaking_lots": "book name other many"},
+    "exchanging": {"may_exchange": "book name other many e", "exchanged_at": "book name other e path", "exchanged_book": "book name other"},
+    "dims": {"dimmed": "worth"},
+    "freeruns": {},
+    "bringing": {"brings": "book names e", "roots": "book names e goal"},
+    "thinglots": {"things": "book name many", "needs": "book name many goal"},
+    "steering": {"way": "book name many lot goal", "is_way": "book name many lot goal thing"},
+    "barring": {"bar": "book name many lot goal", "is_bar": "book name many lot goal thing"},
+    "counting": {"slots": "book name many", "counted": "book use inputs"},
 }
 FOLDER = pathlib.Path(formrules.__file__).parent
 
