@@ -80,6 +80,39 @@ class Cast:
             self.copies[root] = nodes.made(shape if plain else ("copy", self.index, root))
         return self.copies[root]
 
+    def model(self):
+        """Give a cast around this one, and the cast of its mould that this one is a copy of.
+
+        It is the outermost one that there is: there most is copied.
+        """
+        way = [self.at]
+        holder = self.around
+        found = holder, holder.mould.solution.casts[self.at]
+        while holder.around is not None:
+            way.append(holder.at)
+            holder = holder.around
+            model = holder.mould.solution.casts[way[-1]].known_within(way[-2::-1])
+            if model is not None:
+                found = holder, model
+        return found
+
+    def known_within(self, way):
+        """Give the cast to which a way leads, from cast to cast, None if nothing of it is copied so far."""
+        found = self
+        for at in way:
+            if found is not None:
+                found = found.within.get(at)
+        return found
+
+    def way(self):
+        """List the indexes that lead from the outermost cast around this one to it; that one's is its own."""
+        way = []
+        one = self
+        while one.around is not None:
+            way.append(one.at)
+            one = one.around
+        return [one.index] + way[::-1]
+
     def seated(self):
         """List pairs (words, node) for the nodes copied so far that stand in kinds of seats; words tell which."""
         found = [((root,), self.copies[root]) for root in sorted(self.copies) if root in self.mould.seated]
@@ -174,14 +207,18 @@ class Casting(Solution):
 
     def cast_within(self, cast, at):
         """Give the cast, within a cast, of the one that its mould has at an index."""
+        inner = cast.mould.solution.casts[at]
+        if inner.around is not None:
+            return self.cast_within(self.cast_within(cast, inner.around.index), inner.at)
         if at not in cast.within:
-            solution = cast.mould.solution
-            inner = solution.casts[at]
             made = Cast(inner.mould, len(self.casts), cast, at)
             self.casts.append(made)
             cast.within[at] = made
-            for root in sorted(inner.copies):
-                made.copies[root] = cast.copied(self, solution.root(inner.copies[root]))
+            holder, model = made.model()
+            for root in sorted(model.copies):
+                made.copies[root] = holder.copied(self, holder.mould.solution.root(model.copies[root]))
+            for deeper in sorted(model.within):
+                self.cast_within(made, deeper)
         return cast.within[at]
 
     def below(self, at):
@@ -220,8 +257,9 @@ class Casting(Solution):
         found = [(cast, below) for below in solution.below(root)]
         if shape is not None and shape[0] == "copy":
             for _, at, inner in [shape] + solution.more.get(root, []):
-                if at in cast.within:
-                    found.extend(self._deeper(cast.within[at], inner))
+                within = cast.known_within(solution.casts[at].way())
+                if within is not None:
+                    found.extend(self._deeper(within, inner))
         return found
 
     def opened(self, at, most):

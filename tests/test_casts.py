@@ -213,6 +213,33 @@ class Spread(unittest.TestCase):
         e = maker.pick([one, one, ("if", YES, one, one), ("catch", "w", one, other), ("let", "z", one, ("if", NO, name("z"), other))])
         return maker.pick([e, hidden(e), ("then", e, P0), ("let", B0, P1, ("then", e, name(B0))), ("then", ("first", e), P1)])
 
+    def test_what_is_known_of_copies_within_copies(self):
+        """What a part's own uses have found out of one another holds wherever the part stands once more."""
+        forma, formb = form("forma", 0, 1, None, ("first", P0)), form("formb", 0, 2, None, ("let", "t", own("forma", [], [P1]), P0))
+        inner = own("forma", [], [own("formb", [], [("pair", P0, P1), ("pair", P0, P1)])])
+        template = ("then", ("let", "z", own("formb", [], [inner, ("pair", P0, ("fail", "w"))]), ("if", NO, name("z"), own("forma", [], [P0]))), P0)
+        # The kind of z is that of the part of formb, which is a half of what the use within it has.
+        told = book(forma, formb, form("g", 0, 2, None, template))
+        due = ("scheme", (
+            (P1, (), A0), (P0, (), A1), (P0, (), ("pair", A1, ("any", 2))), (P0, (), ("any", 3))), ("any", 3))
+        self.assertEqual(naivekinds.Schemes(told).of("g", 0), due)
+        for few in (2000, -1):
+            with patch("formrules.blocks.FEW", few):
+                self.assertEqual(scheme(told, "g", 0), due)
+        # Two copies of one part are not just alike where one of them knows more.
+        forma = form("forma", 1, 2, None, ("pair", ("first", P1), ("pair", ("if", ("then", NO, P0), ("first", P0), ("then", P1, ("get", "c"))), ASK)))
+        formb = form("formb", 0, 2, (0, 2), ("first", P0), ("first", ("let", "t", own("forma", ["q"], [P1, ("rest",)]), ("first", P0))))
+        formc = form("formc", 1, 3, None, ("then", P1, ("show", P1)))
+        both = own("formc", ["p"], [("pair", P0, P1), ("pair", P0, P1), P1])
+        inner = own("formb", [], [both, P1], [((), [both, both])])
+        told = book(forma, formb, formc, form("g", 2, 2, None, ("then", own("forma", ["u"], [inner, inner]), P0)), cells=("c",))
+        due = ("scheme", (
+            (P1, (), T), (P1, (), ("pair", N, A0)), (P0, (), ("pair", T, A1)), (P0, (), ("pair", ("pair", N, A2), ("any", 3))), (P0, (), ("any", 4))), ("any", 4))
+        self.assertEqual(naivekinds.Schemes(told).of("g", 0), due)
+        for few in (2000, -1):
+            with patch("formrules.blocks.FEW", few):
+                self.assertEqual(scheme(told, "g", 0), due)
+
     def test_small_books(self):
         told = {"scheme": 0, None: 0, "more": 0}
         for seed in range(250):
