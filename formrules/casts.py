@@ -226,7 +226,7 @@ class Casting(Solution):
         root = self.root(at)
         shape = self.shapes[root]
         if shape is None or shape[0] != "copy":
-            return Solution.below(self, root)
+            return super().below(root)
         if not self.settled or root not in self.found_below:
             found = []
             for _, index, inner in [shape] + self.more.get(root, []):
