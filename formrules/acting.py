@@ -2,6 +2,7 @@
 
 from formrules.dims import NO, YES, dim_rank, dims_of, numbered
 from formrules.freenames import free_names
+from formrules.shapes import assembled, nodes_of
 
 ASK = ("ask",)
 ENDLESS = ("endless",)
@@ -18,6 +19,42 @@ def inputs_for(k, many):
     if many <= MOST_WAYS or k < MOST_WAYS - 1:
         return [k]
     return [MOST_WAYS - 1] + inputs_for(k - MOST_WAYS + 1, many - MOST_WAYS + 1)
+
+
+class Trails:
+    """Trails of inputs, known by numbers: a trail is a tuple of inputs, or it is made of two, one behind the other."""
+
+    def __init__(self):
+        self.told = [("inputs",)]
+        self.known = {("inputs",): 0}
+
+    def of(self, inputs):
+        """Give the number of the trail of some inputs."""
+        return self._put(("inputs",) + tuple(inputs))
+
+    def both(self, one, other):
+        """Give the number of two trails one behind the other."""
+        if one == 0 or other == 0:
+            return one + other
+        return self._put(("both", one, other))
+
+    def _put(self, key):
+        if key not in self.known:
+            self.known[key] = len(self.told)
+            self.told.append(key)
+        return self.known[key]
+
+    def inputs_of(self, number):
+        """List the inputs of a trail."""
+        found = []
+        todo = [number]
+        while todo:
+            trail = self.told[todo.pop()]
+            if trail[0] == "both":
+                todo.extend([trail[2], trail[1]])
+            else:
+                found.extend(trail[1:])
+        return found
 
 
 def _choice_of(ways, x):
@@ -75,6 +112,18 @@ class Acting:
         self.names = {at: x for at, x in zip(form.names, words)}
         self.chosen = words[-1]
         self.fault = free_names({fault: True for fault in form.whats.faults}, 1)[0]
+
+    def use(self):
+        """Give the use of the form with these parts."""
+        parts = {place: self.part(place) for place in self.form.kinds}
+        nodes = [node for _, node in nodes_of(self.form.shelf.open_use(self.form.pair))]
+        return assembled(nodes, self.names, parts)
+
+    def inputs(self, thing):
+        """List the inputs by which a part does a thing of the need."""
+        place, seen, what = thing
+        ways = self.need[spot_of(self.form, place, seen)]
+        return inputs_for(ways.index(what), len(ways))
 
     def part(self, place):
         """Give the part for a place."""

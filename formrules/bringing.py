@@ -16,16 +16,16 @@ OF_RULES = -1
 
 def brings(book, names, e):
     """Give the tuple of all whats to which free runs of e come; BadBook, BadNames, BadExpression."""
-    shelf = _shelf_for_names(book, names, e)
-    return Bringing(shelf, Whats(book), e, Sums()).all_by({x: dim for x, dim in names})
+    shelf = shelf_for_names(book, names, e)
+    return Bringing(Whats(book), e, FreeRuns(shelf, Sums())).all_by({x: dim for x, dim in names})
 
 
 class Bringing:
-    """The free runs of an expression, over some sums."""
+    """The free runs of an expression."""
 
-    def __init__(self, shelf, whats, e, sums):
+    def __init__(self, whats, e, runs):
         self.whats = whats
-        self.runs = FreeRuns(shelf, sums)
+        self.runs = runs
         self.frame = Frame(UsesScript(e, []), None, True)
 
     def result(self, names):
@@ -37,12 +37,17 @@ class Bringing:
         """Give a what of a result as it is told."""
         return self.whats.told(self.runs.decoded(what))
 
+    def those_told(self, result, what):
+        """List the whats of a result that are told as a what."""
+        return [one for one in result if self.whats.rank(self.told(one)) == self.whats.rank(what)]
+
     def all_by(self, names):
         """Give the tuple of all whats that come where free names say what a dict tells."""
         return self.whats.ordered([self.told(what) for what in self.result(names)])
 
 
-def _shelf_for_names(book, names, e):
+def shelf_for_names(book, names, e):
+    """Give the shelf of a book; BadBook, BadNames, BadExpression."""
     shelf = shelf_of(book)
     if not _are_names(names):
         raise BadNames("these are no pairs of names and dim worths")
@@ -64,13 +69,13 @@ def _are_names(thing):
 
 def roots(book, names, e, goal):
     """Give the ascending tuple of the paths to the nodes that bring a goal; the errors of brings, BadGoal."""
-    shelf = _shelf_for_names(book, names, e)
+    shelf = shelf_for_names(book, names, e)
     whats = Whats(book)
     if not whats.lets(goal):
         raise BadGoal("this is no what of the book")
-    bringing = Bringing(shelf, whats, e, Roots())
+    bringing = Bringing(whats, e, FreeRuns(shelf, Roots()))
     result = bringing.result({x: dim for x, dim in names})
-    coming = [what for what in result if whats.rank(bringing.told(what)) == whats.rank(goal)]
+    coming = bringing.those_told(result, goal)
     if goal[0] == "ends":
         return ((),) if coming else ()
     paths = [path for path, _ in nodes_of(e)]

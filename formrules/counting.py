@@ -6,14 +6,15 @@ from formrules.expanding import Sizes
 from formrules.freeforms import FreeForm
 from formrules.guards import shelf_for
 from formrules.running import need_inputs
+from formrules.tallies import slots_of
 from formrules.watching import Watcher
-from formrules.whats import OUTCOMES, Whats
+from formrules.whats import Whats
 from formrules.writing import MOST_NODES
 
 
 def slots(book, name, many):
     """Give the tuple of the things that are outcomes; BadBook, BadForm, BadMany, TooMany(3), TooMany(100), NoPlain."""
-    return tuple([thing for thing in FreeForm(book, name, many).things if thing[2][0] in OUTCOMES])
+    return tuple(slots_of(FreeForm(book, name, many)))
 
 
 def counted(book, use, inputs):

@@ -44,6 +44,10 @@ class Sums:
         """Give the result of an own use, that of its form being known."""
         return result
 
+    def looped(self, result, turns):
+        """Give the result of a loop that can turn, one turn having a value: it lets no more, and no less."""
+        return result
+
 
 class Frame:
     """A rule or an expression at work.
@@ -190,6 +194,18 @@ class FreeRuns:
             self.frames[pair] = Frame(script, None, False)
         return self.frames[pair]
 
+    def result_of_use(self, frame, at, says):
+        """Give the result of an own use, None if it is due: its form's one, for the answers that its parts give."""
+        node = frame.script.nodes[at]
+        inner = self.of_form((node[1], len(node[4])))
+        while inner.query is not None:
+            number = self.answer(frame, at, says, inner.query)
+            if number is None:
+                return None
+            inner = inner.with_answer(number)
+        result = self.told(inner, 0, inner.unsaid())
+        return None if result is None else self.sums.used(frame, at, result)
+
     def answer(self, frame, at, says, query):
         """Give the number of the result of the part of an own use for a query, None if it is due."""
         place, seen = query
@@ -326,11 +342,11 @@ def _if(runs, frame, at, says):
 
 
 def _while(runs, frame, at, says):
-    """Give the result of a loop: that it turned before never lets more, and never less."""
     test = runs.part(frame, at, says, 0, None)
     if test is None:
         return None
     total = Total(runs.sums)
+    turns = None
     for dim, value in total.take(test):
         if dim == NO_AT:
             total.add(ENDS_NUMBER, value)
@@ -340,7 +356,8 @@ def _while(runs, frame, at, says):
                 return None
             for _, turn in total.add_behind(value, body):
                 total.add(ENDLESS, runs.sums.times(turn, runs.sums.brought(frame, at)))
-    return total.found
+                turns = turn if turns is None else runs.sums.plus(turns, turn)
+    return total.found if turns is None else runs.sums.looped(total.found, turns)
 
 
 def _catch(runs, frame, at, says):
@@ -361,16 +378,7 @@ def _catch(runs, frame, at, says):
 
 
 def _own(runs, frame, at, says):
-    """Give the result of an own use: its form's one, for the answers that its parts give."""
-    node = frame.script.nodes[at]
-    inner = runs.of_form((node[1], len(node[4])))
-    while inner.query is not None:
-        answer = runs.answer(frame, at, says, inner.query)
-        if answer is None:
-            return None
-        inner = inner.with_answer(answer)
-    result = runs.told(inner, 0, inner.unsaid())
-    return None if result is None else runs.sums.used(frame, at, result)
+    return runs.result_of_use(frame, at, says)
 
 
 FINDS = {

@@ -1,6 +1,6 @@
 """Ways: real runs of uses whose parts keep to a lot, steered by inputs to a goal."""
 
-from formrules.acting import ENDLESS, Acting, inputs_for, spot_of, spots_of, valuations_of
+from formrules.acting import ENDLESS, Acting, Trails, spot_of, spots_of, valuations_of
 from formrules.books import is_core, is_expression_of
 from formrules.bringing import Bringing
 from formrules.closed import is_closed_on
@@ -10,7 +10,7 @@ from formrules.expanding import Sizes
 from formrules.freeforms import FreeForm, SomePlaces
 from formrules.freeruns import FreeRuns, Sums
 from formrules.running import are_inputs
-from formrules.shapes import assembled, nodes_of, use_names, use_parts
+from formrules.shapes import use_names, use_parts
 from formrules.thinglots import needs_of
 from formrules.watching import Watcher
 from formrules.writing import MOST_NODES
@@ -47,32 +47,21 @@ def _need_real_goal(form, goal):
 
 def _way_by(form, need, let, goal):
     """Give a use whose parts do what a need has, and inputs that steer its run to the goal."""
-    wanted = spots_of(form, need)
-    acting = Acting(form, wanted, spots_of(form, let))
-    parts = {place: acting.part(place) for place in form.kinds}
-    use = assembled([node for _, node in nodes_of(form.shelf.open_use(form.pair))], acting.names, parts)
+    acting = Acting(form, spots_of(form, need), spots_of(form, let))
     sums = FewestInputs()
-    values = {}
-    for at in need:
-        place, seen, what = form.things[at]
-        ways = wanted[spot_of(form, place, seen)]
-        values[form.key(form.things[at])] = sums.doing(inputs_for(ways.index(what), len(ways)))
+    values = {form.key(form.things[at]): sums.doing(acting.inputs(form.things[at])) for at in need}
     runs = FreeRuns(form.shelf, sums)
     result = form.result(runs, SomePlaces(form, runs, values))
-    return use, sums.inputs_of(result[runs.coded(goal)])
+    return acting.use(), sums.trails.inputs_of(result[runs.coded(goal)][1])
 
 
 class FewestInputs(Sums):
-    """Sums whose values are pairs (number of inputs, number of a trail): the fewest inputs by which a run comes there.
-
-    A trail is a tuple of inputs, or a pair of the numbers of two trails, one behind the other.
-    """
+    """Sums whose values are pairs (number of inputs, number of a trail): the fewest inputs to come there."""
 
     def __init__(self):
         Sums.__init__(self)
         self.one = (0, 0)
-        self.trails = [()]
-        self.known = {}
+        self.trails = Trails()
 
     def plus(self, one, other):
         """Give the way with fewer inputs."""
@@ -82,7 +71,7 @@ class FewestInputs(Sums):
         """Give both ways one behind the other."""
         if one == self.one or other == self.one:
             return other if one == self.one else one
-        return one[0] + other[0], self._trail(("both", one[1], other[1]))
+        return one[0] + other[0], self.trails.both(one[1], other[1])
 
     def asked(self):
         """Give the value of an ask of a rule: any input will do."""
@@ -90,25 +79,7 @@ class FewestInputs(Sums):
 
     def doing(self, inputs):
         """Give the value of a doing that takes these inputs."""
-        return (len(inputs), self._trail(("inputs",) + tuple(inputs))) if inputs else self.one
-
-    def _trail(self, key):
-        if key not in self.known:
-            self.known[key] = len(self.trails)
-            self.trails.append(key)
-        return self.known[key]
-
-    def inputs_of(self, value):
-        """List the inputs of a value."""
-        found = []
-        todo = [value[1]]
-        while todo:
-            trail = self.trails[todo.pop()]
-            if trail[:1] == ("both",):
-                todo.extend([trail[2], trail[1]])
-            else:
-                found.extend(trail[1:])
-        return found
+        return len(inputs), self.trails.of(inputs)
 
 
 def is_way(book, name, many, lot, goal, thing):
@@ -135,7 +106,7 @@ def _keeps_to(form, spots, place, part, names):
     """Tell whether a part keeps to a lot, told by spots, at a place with whatever is seen there."""
     if form.seen[place] is None:
         return True
-    bringing = Bringing(form.shelf, form.whats, part, Sums())
+    bringing = Bringing(form.whats, part, FreeRuns(form.shelf, Sums()))
     for seen in valuations_of(form, place):
         there = spots.get(spot_of(form, place, seen), [])
         let = [("ends", numbered(what[1])) if what[0] == "ends" else what for what in there]

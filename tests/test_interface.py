@@ -49,6 +49,19 @@ PARAMETERS = {
     "steering": {"way": "book name many lot goal", "is_way": "book name many lot goal thing"},
     "barring": {"bar": "book name many lot goal", "is_bar": "book name many lot goal thing"},
     "counting": {"slots": "book name many", "counted": "book use inputs"},
+    "fronts": {"front": "book name many ending", "greatest": "book name many ending", "least_steps": "book names e ending"},
+    "plays": {"play": "book name many ending count"},
+    "pricing": {"needed": "book name many ending", "reason": "book name many ending count", "is_reason": "book name many ending count thing"},
+    "spans": {
+        "equations": "book name many ending", "spanning": "book name many ending", "is_spanning": "book name many ending thing",
+        "breaking": "book name many ending row",
+    },
+    "editions": {"kept": "old new", "fares": "old new name many", "wronged": "old new name many"},
+    "wishes": {"is_wish": "thing", "first_line": "wish line", "first_lines": "wish"},
+    "deeds": {"is_deed": "book name many wish thing", "story": "book name many wish deeds", "is_story": "book name many wish deeds thing"},
+    "promises": {"weakest": "book name many wish", "promise_for": "book name many wish deeds", "still": "old new name many wish"},
+    "trees": {"is_bare": "book name", "is_tree": "parts thing", "tree_of": "book name"},
+    "writings": {"is_writing": "book names parts thing", "tree_written": "book names parts writing", "is_cut": "parts tree thing"},
 }
 FOLDER = pathlib.Path(formrules.__file__).parent
 
@@ -81,7 +94,7 @@ class Interface(unittest.TestCase):
             self.assertTrue(all(isinstance(node, ast.ImportFrom) for node in found), file)
             names = [node.module for node in found]
             imports[file] = {name.split(".")[1] for name in names if name.startswith("formrules.")}
-            self.assertLessEqual({name for name in names if not name.startswith("formrules.")}, {"heapq"})
+            self.assertLessEqual({name for name in names if not name.startswith("formrules.")}, {"heapq", "itertools", "math"})
 
         def reached(file, ahead):
             for other in imports[file]:

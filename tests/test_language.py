@@ -85,7 +85,7 @@ class Language(unittest.TestCase):
                     inner = [one.name for one in node.body if isinstance(one, ast.FunctionDef)]
                     self.assertEqual(len(inner), len(set(inner)), (file, node.name))
                 if isinstance(node, ast.Attribute) and isinstance(node.ctx, ast.Load):
-                    self.assertIn(node.attr, assigned | methods | METHODS | {"__init__"}, (file, node.lineno))
+                    self.assertIn(node.attr, assigned | methods | METHODS | {"__init__", "__class__", "__name__"}, (file, node.lineno))
 
     def test_words(self):
         for file, tree in files():
@@ -173,6 +173,15 @@ class Language(unittest.TestCase):
                             self.assertNotIn(ast.unparse(node.func.value), over, (file, node.lineno))
                         if isinstance(node, ast.Subscript) and isinstance(node.ctx, (ast.Store, ast.Del)):
                             self.assertNotIn(ast.unparse(node.value), over, (file, node.lineno))
+
+    def test_values_at_module_level_are_plain(self):
+        plain = (ast.Constant, ast.List, ast.Tuple, ast.Dict, ast.Name, ast.Load, ast.UnaryOp, ast.USub)
+        for file, tree in files():
+            for node in tree.body:
+                self.assertIsInstance(node, (ast.Expr, ast.ImportFrom, ast.FunctionDef, ast.ClassDef, ast.Assign), file)
+                if isinstance(node, ast.Assign):
+                    for one in ast.walk(node.value):
+                        self.assertIsInstance(one, plain, (file, node.lineno))
 
     def test_tables_of_functions_are_called_by_a_name(self):
         for file, tree in files():
