@@ -2,7 +2,11 @@
 
 
 class FormError(ValueError):
-    """What all errors of the package have in common."""
+    """What all errors of the package have in common: called has the name of the class."""
+
+    def __init__(self, message=""):
+        ValueError.__init__(self, message)
+        self.called = self.__class__.__name__
 
 
 class BadAnswers(FormError):

@@ -7,6 +7,7 @@ import pathlib
 import unittest
 
 import formrules
+from formrules.desk import Desk
 
 PARAMETERS = {
     "words": {"is_name": "thing", "is_sign": "thing", "words_of": "text"},
@@ -62,6 +63,19 @@ PARAMETERS = {
     "promises": {"weakest": "book name many wish", "promise_for": "book name many wish deeds", "still": "old new name many wish"},
     "trees": {"is_bare": "book name", "is_tree": "parts thing", "tree_of": "book name"},
     "writings": {"is_writing": "book names parts thing", "tree_written": "book names parts writing", "is_cut": "parts tree thing"},
+    "tables": {"is_table": "book names parts tree thing", "table": "book names parts tree", "least_writing": "book names parts tree"},
+    "lots": {"needless": "book names", "least_lots": "book names name", "bases": "book names"},
+    "carrying": {"carried": "one other names", "carry": "one other names e"},
+    "patterns": {"is_notation": "book thing"},
+    "readings": {"readings_many": "book notation text", "rivals": "book notation text"},
+    "reading": {"can_follow": "book notation text", "read": "book notation text"},
+    "patches": {"span": "book notation text path", "put": "book notation text path rows"},
+    "brackets": {
+        "quarrels": "book notation e", "is_settled": "book notation e some", "text_of": "book notation e", "brackets": "book notation e", "apart": "book notation e",
+    },
+    "clear": {"rival_text": "book notation heads"},
+    "booktexts": {"read_book": "text", "book_text": "book notation"},
+    "desk": {},
 }
 FOLDER = pathlib.Path(formrules.__file__).parent
 
@@ -81,6 +95,12 @@ class Interface(unittest.TestCase):
                 function = getattr(module, word)
                 self.assertEqual(function.__module__, "formrules." + file)
                 self.assertEqual(list(inspect.signature(function).parameters), parameters.split())
+
+    def test_desk(self):
+        self.assertEqual(Desk.__module__, "formrules.desk")
+        self.assertEqual(list(inspect.signature(Desk).parameters), ["text"])
+        self.assertEqual(list(inspect.signature(Desk.say).parameters), ["self", "line"])
+        self.assertIn("say", vars(Desk))
 
     def test_init_defines_nothing(self):
         tree = ast.parse((FOLDER / "__init__.py").read_text(encoding="utf-8"))
