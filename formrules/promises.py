@@ -120,20 +120,37 @@ class Promises:
 
     def all_found(self):
         """List the greatest promises under which the wish is kept; TooMany(60)."""
-        lot = self._broken_by(0)
-        if lot is not None:
+        if self._broken_by(0) is not None:
             return []
-        lot = self._unplaced()
-        while lot is not None:
-            broken = self._broken_by(lot)
-            if broken is None:
-                self.found.append(self._grown(lot))
-            else:
-                self.broken.append(self._shrunk(broken))
-            if len(self.found) > MOST_PROMISES:
-                raise TooMany(MOST_PROMISES)
-            lot = self._unplaced()
+        self._search()
         return [tuple([deed for at, deed in enumerate(self.deeds) if lot >> at & 1]) for lot in self.found]
+
+    def _search(self):
+        """Find all greatest lots: those within a lot that have what is held, by taking deeds out one by one."""
+        todo = [((1 << len(self.deeds)) - 1, 0)]
+        while todo:
+            lot, held = todo.pop()
+            if any([lot & one == lot for one in self.found]):
+                continue
+            choices = self._choices(lot, held)
+            for at in range(len(self.deeds)):
+                if choices >> at & 1:
+                    todo.append((lot ^ 1 << at, held))
+                    held |= 1 << at
+
+    def _choices(self, lot, held):
+        """Give the deeds of a lot one of which must be taken out, none if a greatest lot is found around it."""
+        within = [one & ~held for one in self.broken if one & lot == one]
+        if within:
+            return min(within, key=_bits_of)
+        broken = self._broken_by(lot)
+        if broken is not None:
+            self.broken.append(self._shrunk(broken))
+            return self.broken[-1] & ~held
+        self.found.append(self._grown(lot))
+        if len(self.found) > MOST_PROMISES:
+            raise TooMany(MOST_PROMISES)
+        return 0
 
     def _broken_by(self, lot):
         """Give the lot of the deeds of a story under a lot, None if the wish is kept."""
@@ -162,26 +179,6 @@ class Promises:
             if lot >> at & 1 and self._broken_by(lot ^ 1 << at) is not None:
                 lot ^= 1 << at
         return lot
-
-    def _unplaced(self):
-        """Give a great lot that lies in none of those found, and in which no broken one lies, or None."""
-        todo = [((1 << len(self.deeds)) - 1, 0)]
-        while todo:
-            lot, held = todo.pop()
-            if any([lot & one == lot for one in self.found]):
-                continue
-            within = [one & ~held for one in self.broken if one & lot == one]
-            if not within:
-                return lot
-            # The deeds that are taken out one by one are those of the lot that lets the fewest choices.
-            fewest = min(within, key=_bits_of)
-            choices = []
-            for at in range(len(self.deeds)):
-                if fewest >> at & 1:
-                    choices.append((lot ^ 1 << at, held))
-                    held |= 1 << at
-            todo.extend(choices[::-1])
-        return None
 
 
 def _bits_of(lot):
