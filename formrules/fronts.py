@@ -2,11 +2,14 @@
 
 from formrules.bringing import Bringing, shelf_for_names
 from formrules.freeforms import FreeForm
+from formrules.linear import tableau_for
 from formrules.tallies import MOST_SYMBOLS, SlotTallies, Tallies, TallyRuns, need_ending, packing_for
 from formrules.whats import Whats
 
 # What stands for endless many counts.
 ENDLESS_MANY = ()
+# Where there are more counts than these, it is asked which of them are cheapest at some prices.
+MANY = 8
 
 
 def front(book, name, many, ending):
@@ -43,7 +46,7 @@ def least_steps(book, names, e, ending):
     whats = Whats(book)
     need_ending(whats, ending)
     packing = packing_for(shelf, e, 0)
-    symbols = TallyRuns(shelf, LeastCounts(packing, MOST_SYMBOLS), None)
+    symbols = TallyRuns(shelf, CheapestCounts(packing, MOST_SYMBOLS), None)
     bringing = Bringing(whats, e, TallyRuns(shelf, LeastCounts(packing, None), symbols))
     result = bringing.result({x: dim for x, dim in names})
     return min([result[what][0] for what in bringing.those_told(result, ending)], default=None)
@@ -66,6 +69,26 @@ def _has_one_within(packing, counts, count):
         if packing.is_within(one, count):
             return True
     return False
+
+
+class CheapestCounts(LeastCounts):
+    """Tallies that keep, where there are many, just those least counts that are cheapest at some prices."""
+
+    def kept(self, counts):
+        """Give the ascending tuple of these counts."""
+        most = MANY
+        found = []
+        for count in super().kept(counts):
+            found.append(count)
+            if len(found) > most:
+                found = self._cheapest(found)
+                most = max(most, 2 * len(found))
+        return tuple(found)
+
+    def _cheapest(self, counts):
+        """List those counts that no mix of the others is at most."""
+        told = [self.packing.unpacked(count, self.packing.many) for count in counts]
+        return [count for count, one in zip(counts, told) if tableau_for(told, one).mix() is None]
 
 
 class GreatestCounts(Tallies):

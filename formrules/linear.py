@@ -77,6 +77,12 @@ def orthogonal(rows, many):
     return found.reduced()
 
 
+def tableau_for(counts, count):
+    """Give the tableau for a mix of other counts that is at most one of them; None if there are no others."""
+    others = [one for one in counts if one != count]
+    return Tableau([[its - mine for its, mine in zip(other, count)] for other in others]) if others else None
+
+
 class Tableau:
     """Looks for numbers from 0 on, not all 0, by which rows add up to at most 0 everywhere.
 

@@ -3,7 +3,7 @@
 from formrules.errors import BadCount
 from formrules.freeforms import FreeForm
 from formrules.fronts import front_of
-from formrules.linear import Tableau
+from formrules.linear import tableau_for
 from formrules.reaching import is_count
 from formrules.tallies import need_ending
 from formrules.terms import headed, is_number
@@ -37,13 +37,12 @@ def _front_with(book, name, many, ending, count):
 
 def _reason_of(counts, count):
     """Give prices or a mix for one of the counts of a front."""
-    others = [one for one in counts if one != count]
-    if not others:
+    tableau = tableau_for(counts, count)
+    if tableau is None:
         return "prices", tuple([1 for _ in count])
-    rows = [[its - mine for its, mine in zip(other, count)] for other in others]
-    tableau = Tableau(rows)
     mix = tableau.mix()
     if mix is None:
+        rows = [[its - mine for its, mine in zip(other, count)] for other in counts if other != count]
         return "prices", _from_one_on(tableau.prices(), rows)
     at = counts.index(count)
     return "mix", tuple(mix[:at] + [0] + mix[at:])
