@@ -115,10 +115,13 @@ class Production:
 
     def made(self, filled):
         """Give the node of this production for what was filled in."""
-        if self.form is not None:
-            _, name, binds, parts, _, _ = self.form
-            return ("own", name) + filled.items_of(binds, parts) + (tuple([row.items_of(
-                self.form[4][0], self.form[4][1]) for row in filled.rows]),)
+        if self.form is None:
+            return self._core_made(filled)
+        _, name, binds, parts, row, _ = self.form
+        rows = tuple([one.items_of(row[0], row[1]) for one in filled.rows])
+        return ("own", name) + filled.items_of(binds, parts) + (rows,)
+
+    def _core_made(self, filled):
         items = [self.head]
         taken = 0
         for field in FIELDS[self.head]:

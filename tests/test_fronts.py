@@ -2,11 +2,13 @@
 
 import random
 import unittest
+from unittest import mock
 
 import naive
 import naivecounts
 import naiveruns
 
+from formrules import fronts, tallies
 from formrules.books import is_core, is_expression
 from formrules.closed import is_closed
 from formrules.counting import counted, slots
@@ -151,6 +153,22 @@ class Fronts(unittest.TestCase):
         self.assertEqual(front(told, "fl", 0, V), ((12, 0, 0, 1, 0), (13, 0, 1, 0, 0)))
         self.assertEqual([count[1:] for count in front(told, "fl", 0, ENDS_N)], [(2048, 0, 0, 0)])
         self.assertEqual(least_steps(told, (), own("fl", [], [("less", ASK, num(1))]), V), 16)
+
+
+    def test_where_forms_have_many(self):
+        """Where a form by itself has very many counts, its uses are looked at one by one; what is told stays the same."""
+        for most, many in ((0, 1), (1, 1), (3, 2)):
+            for told, word, rows, counting in small_counts(range(60, 90), 8):
+                use = naive.open_use([one for one in told[2] if one[1] == word][0], rows, lambda place: "n" + "abcdefghij"[place[-1]] + "xyz"[place[1] % 3 if len(place) == 3 else 0] + place[0][0], lambda place: ("fail", "w"))
+                for ending in list(counting.found):
+                    if ending[0] == "fails" and ending[1] not in counting.faults:
+                        continue
+                    plainly = [function(told, word, rows, ending) for function in (front, greatest)] + [least_steps(told, (), use, ending)]
+                    with mock.patch.object(tallies, "MOST_SYMBOLS", most), mock.patch.object(fronts, "MOST_SYMBOLS", most), mock.patch.object(fronts, "MANY", many):
+                        self.assertEqual([function(told, word, rows, ending) for function in (front, greatest)] + [least_steps(told, (), use, ending)], plainly)
+        first = form("fa", 0, 1, None, ("if", P0, num(1), num(2)))
+        forms = [first] + [form("f" + other, 0, 1, None, ("then", own("f" + one, [], [P0]), own("f" + one, [], [P0]))) for one, other in zip("abcdefghij", "bcdefghijk")]
+        self.assertEqual(least_steps(book(*forms), (), own("fk", [], [("show", YES)]), ENDS_N), 1024 * 4 + 1023)
 
 
 class LeastSteps(unittest.TestCase):
