@@ -61,8 +61,9 @@ def _choice_of(ways, x):
     """Give an expression that does one of these expressions, as an input tells; x is a name for that."""
     if len(ways) == 1:
         return ways[0]
+    first = ("less", ASK, ("number", 1))
     if len(ways) == 2:
-        return ("if", ("less", ASK, ("number", 1)), ways[0], ways[1])
+        return first if ways == [YES, NO] else ("if", first, ways[0], ways[1])
     if len(ways) > MOST_WAYS:
         ways = ways[:MOST_WAYS - 1] + [_choice_of(ways[MOST_WAYS - 1:], x)]
     e = ways[-1]

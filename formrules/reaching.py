@@ -103,7 +103,8 @@ class Reaching:
         packing = Packing(BITS)
         things = [(at, thing) for at, thing in enumerate(slots_of(form), start=1) if count[at]]
         spots = spots_of(form, [form.indexes[form.key(thing)] for _, thing in things])
-        self.acting = Acting(form, spots, spots)
+        # What never comes may be whatever makes the parts small.
+        self.acting = Acting(form, spots, spots_of(form, list(range(len(form.things)))))
         self.count = sum([packing.unit(at) * one for at, one in enumerate(count)])
         self.sums = Reached(packing, self.count)
         self.runs = StepRuns(form.shelf, self.sums)
