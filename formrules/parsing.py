@@ -282,11 +282,12 @@ class Parser:
         last = node.row is None and node.at == len(node.pieces) - 1
         if piece is None or (piece[0] == "part" and last):
             self.frames.pop()
-            node.mark.span = (node.mark.span[0], self.many + 1)
+            mark = node.mark
+            mark.span = (mark.span[0], self.many + 1)
             stretch = self.frames[-1]
-            stretch.marks.append(node.mark)
-            stretch.due = node.mark.back
-            stretch.closed = stretch.closed or node.mark.back
+            stretch.marks.append(mark)
+            stretch.due = mark.back
+            stretch.closed = stretch.closed or mark.back
         elif piece[0] == "part":
             self.frames.append(Stretch(node.filling(), piece[1]))
             node.step()
@@ -302,7 +303,8 @@ class Parser:
         elif piece[0] == "cell" or (piece[0] == "fault" and is_name(word)):
             if piece[0] == "cell" and word not in self.grammar.cells:
                 return False
-            node.filling().word = word
+            filling = node.filling()
+            filling.word = word
         elif piece[0] == "name" and is_name(word):
             return self._put_name(node, word)
         else:
@@ -333,7 +335,8 @@ class Parser:
         if isinstance(frame, OpenNode):
             return self._put_name(frame, place)
         self._put_atom(frame, ("name", place) if head in PLACED else place)
-        frame.marks[-1].span = (self.many - 1, self.many + 1)
+        mark = frame.marks[-1]
+        mark.span = (self.many - 1, self.many + 1)
         return True
 
     def _many_of(self, head):

@@ -108,10 +108,10 @@ class Lines:
         many = 0
         while len({lot: True for lot in lots}) > many:
             many = len({lot: True for lot in lots})
-            numbers = {lot: k for k, lot in enumerate(sorted({lot: True for lot in lots}))}
+            numbers = _numbered(lots)
             own = [numbers[lot] for lot in lots]
             lots = [(own[at],) + tuple([own[one] for one in self.wish[1][at]]) for at in range(len(lots))]
-        numbers = {lot: k for k, lot in enumerate(sorted({lot: True for lot in lots}))}
+        numbers = _numbered(lots)
         return [numbers[lot] for lot in lots]
 
     def _way_of(self, line):
@@ -130,3 +130,8 @@ class Lines:
     def first_of(self, line):
         """Give the first of the lines that are alike a line."""
         return self.known[self._way_of(line)]
+
+
+def _numbered(things):
+    """Give the dict from things to numbers, one for equal ones."""
+    return {thing: k for k, thing in enumerate(sorted({one: True for one in things}))}

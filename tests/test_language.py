@@ -87,6 +87,12 @@ class Language(unittest.TestCase):
                 if isinstance(node, ast.Attribute) and isinstance(node.ctx, ast.Load):
                     self.assertIn(node.attr, assigned | methods | METHODS | {"__init__", "__class__", "__name__"}, (file, node.lineno))
 
+    def test_attributes_are_assigned_through_local_names(self):
+        for file, tree in files():
+            for node in ast.walk(tree):
+                if isinstance(node, ast.Attribute) and isinstance(node.ctx, ast.Store):
+                    self.assertIsInstance(node.value, ast.Name, (file, node.lineno))
+
     def test_words(self):
         for file, tree in files():
             for node in ast.walk(tree):
