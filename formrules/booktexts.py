@@ -1,15 +1,11 @@
 """Texts of books, which tell their own notation."""
 
-from formrules.books import is_book
+from formrules.books import MOST_BINDS, MOST_CELLS, MOST_PARTS, is_book
 from formrules.brackets import words_told
 from formrules.errors import BadBook, BadText
 from formrules.parsing import FIGURES, Parser
 from formrules.patterns import Grammar, need_notation
 from formrules.words import is_name, is_sign, words_of
-
-MOST_CELLS = 4
-MOST_NAMES = 3
-MOST_PARTS = 4
 
 
 def read_book(text):
@@ -82,7 +78,7 @@ class BookReader:
         names = [form[1] for form in self.forms]
         name = self.take(is_name(self.word()) and self.word() not in names)
         self.take(self.word() == "as")
-        pieces = Pieces(self, ("bind", MOST_NAMES), ("part", MOST_PARTS))
+        pieces = Pieces(self, ("bind", MOST_BINDS), ("part", MOST_PARTS))
         pieces.read("means")
         binds, parts, row = pieces.many[0], pieces.many[1], pieces.row
         grammar = Grammar(tuple(self.cells), tuple(self.forms), tuple(self.notation), True)
@@ -165,7 +161,7 @@ class Pieces:
         reader = self.reader
         fine = self.part[0] == "part" and self.row is None and len(self.found) > 0 and not self._first_is_part_alone()
         reader.take(fine)
-        inner = Pieces(reader, ("row", MOST_NAMES), ("here", MOST_PARTS))
+        inner = Pieces(reader, ("row", MOST_BINDS), ("here", MOST_PARTS))
         inner.read("done")
         reader.take(reader.word() == "done")
         sign = reader.take(is_sign(reader.word()) and reader.word() not in reader.signs)

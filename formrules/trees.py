@@ -1,12 +1,11 @@
 """Bare forms, and what they do, told as trees."""
 
+from formrules.books import MOST_PARTS
 from formrules.errors import BadForm, BadParts
 from formrules.forests import NO, YES, Forest
 from formrules.guards import shelf_with
 from formrules.terms import headed, is_below, is_figure
 from formrules.words import is_name
-
-MOST_PARTS = 4
 
 
 def is_bare(book, name):

@@ -6,7 +6,6 @@ from formrules.words import is_name
 
 MOST_STATIONS = 5
 MOST_LINES = 30
-BARE_OUTCOMES = (("ends",), ("yes",), ("no",))
 
 
 def is_wish(thing):
