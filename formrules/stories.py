@@ -26,6 +26,7 @@ class Course:
         self.kinds = dict(told[2])
         self.whole = told[3]
         self.wish = wish
+        self.telling = _telling_numbers(wish)
         self.held, self.rows = behaviour_of(shelf, cells, pair[0], pair[1], told)
         self.shown = self._shown()
 
@@ -47,7 +48,7 @@ class Course:
     def starts(self):
         """List pairs (cells, state) for all that may matter of what cells hold at first."""
         found = []
-        for numbers in _all_numbers(len(self.shown[0])):
+        for numbers in self._all_numbers(len(self.shown[0])):
             cells = [0 for _ in self.cells]
             for thing, number in zip(self.shown[0], numbers):
                 cells[self.held[thing]] = number
@@ -109,7 +110,7 @@ class Course:
         first = len(self.rows[row][0])
         used = sorted({on[1][at]: True for at in self.shown[on[0]] if on[1][at] >= first})
         found = []
-        for numbers in _all_numbers(len(used)):
+        for numbers in self._all_numbers(len(used)):
             new = [0] * many
             for thing, number in zip(used, numbers):
                 new[thing - first] = number
@@ -137,6 +138,13 @@ class Course:
                 found.append((step, self._behind(state, what[4][k], new, station)))
         return found
 
+    def _all_numbers(self, many):
+        """List all tuples of so many numbers, as far as they are told apart."""
+        found = [()]
+        for _ in range(many):
+            found = [numbers + (one,) for numbers in found for one in self.telling]
+        return found
+
     def outcomes_of(self, place, outcome):
         """List the indexes of the outcomes of a place to which a deed may come."""
         if self.kinds[place] == TRUTH:
@@ -144,9 +152,9 @@ class Course:
         return list(range(len(outcomes_from(self.kinds[place], 0))))
 
 
-def _all_numbers(many):
-    """List all tuples of so many numbers."""
-    found = [()]
-    for _ in range(many):
-        found = [numbers + (one,) for numbers in found for one in range(MOST_NUMBER + 1)]
-    return found
+def _telling_numbers(wish):
+    """List the numbers that lead elsewhere than lesser ones: what others can do in a line, these can."""
+    found = {}
+    for number in range(MOST_NUMBER + 1):
+        found.setdefault(tuple([station[number] for station in wish[1]]), number)
+    return list(found.values())
